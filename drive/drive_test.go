@@ -28,7 +28,7 @@ func TestP13_1(t *testing.T) {
 		e api.Errno
 	}{
 		{of(0, 0, 0, 0, 0), api.OK}, {of(0, 4, 0, 1, 5), api.OK}, {of(0, 4, 0, 2, 0), api.OK}, {of(0, 3, 3, 2, 0), api.OK}, {of(5, 5, 0, 3, 1), api.OK},
-		{of(-1, 0, 0, 0, 0), api.ErrRange}, {of(0, 63001, 0, 2, 0), api.ErrRange}, {of(0, 500, 21, 2, 0), api.ErrRange}, {of(0, 5, -1, 2, 0), api.ErrRange}, {of(0, 0, 0, 4, 0), api.ErrRange}, {of(0, 0, 0, -1, 0), api.ErrRange}, {of(0, 4, 0, 1, 6), api.ErrRange}, {of(0, 4, 0, 1, 0), api.ErrRange}, {of(0, 0, 0, 0, 1), api.ErrRange}, {of(0, 4, 0, 2, 1), api.ErrRange}, {of(0, 0, 0, 3, 0), api.ErrRange},
+		{of(-1, 0, 0, 0, 0), api.ErrRange}, {of(0, 63001, 0, 2, 0), api.ErrRange}, {of(0, 500, 21, 2, 0), api.ErrRange}, {of(0, 5, -1, 2, 0), api.ErrRange}, {of(0, 0, 0, 4, 0), api.ErrRange}, {of(0, 0, 0, -1, 0), api.ErrRange}, {of(0, 4, 0, 1, 6), api.ErrRange}, {of(0, 4, 0, 1, -1), api.ErrRange}, {of(0, 4, 0, 1, 0), api.ErrForm}, {of(0, 0, 0, 0, 1), api.ErrForm}, {of(0, 4, 0, 2, 1), api.ErrForm}, {of(0, 0, 0, 3, 0), api.ErrForm},
 		{of(0, 4, 0, 0, 0), api.ErrForm}, {of(0, 0, 1, 0, 0), api.ErrForm}, {of(0, 0, 0, 1, 1), api.ErrForm}, {of(0, 4, 1, 1, 1), api.ErrForm}, {of(0, 0, 0, 2, 0), api.ErrForm}, {of(0, 2, 3, 2, 0), api.ErrForm}, {of(0, 4, 0, 3, 1), api.ErrForm}, {of(4, 4, 1, 3, 1), api.ErrForm},
 	} {
 		if e := Check(c.d); e != c.e {

@@ -60,7 +60,7 @@ func TestP36_1(t *testing.T) {
 		{of(5, 0, 0, 1, 0), api.ErrState}, {of(10, 0, 2, 1, 0), api.ErrState}, {of(10, 1, 0, 0, 1), api.ErrState}, {motor(of(10, 0, 0, 0, 0)), api.ErrState}, {of(-1, 0, 0, 0, 0), api.ErrRange}, {of(31, 0, 0, 0, 0), api.ErrRange}, {of(5, 4, 2, 0, 1), api.ErrRange}, {of(5, -1, 2, 0, 1), api.ErrRange}, {of(5, 0, 2, 0, 1), api.ErrRange}, {of(5, 1, 2, 0, 0), api.ErrRange}, {of(5, 1, 2, 0, 2), api.ErrRange}, {of(10, 0, 0, 3, 0), api.ErrRange}, {of(10, 0, 0, -1, 0), api.ErrRange}, {api.Body{Load: 10001}, api.ErrRange}, {api.Body{Load: -1, Brake: api.Brake{State: 9}}, api.ErrRange}, {api.Body{Brake: api.Brake{State: 9}}, api.ErrState}, {api.Body{Brake: api.Brake{Left: 1}}, api.ErrRange},
 		{of(10, 0, 0, 2, 0), api.OK}, {of(5, 3, 2, 0, -1), api.OK}, {motor(of(5, 0, 2, 0, 0)), api.OK}, {of(10, 0, 1, 0, 0), api.OK},
 	} {
-		if e, n := Check(c, []api.Body{none, x.b}); e != x.e || e != api.OK && n != 2 || e == api.OK && n != 0 {
+		if e, n := Check(c, []api.Body{none, x.b}); e != x.e || e != api.OK && n != 1 || e == api.OK && n != 0 {
 			t.Error(i, e, n)
 		}
 		if x.e == api.OK {
@@ -72,7 +72,7 @@ func TestP36_1(t *testing.T) {
 		_, m, g := Run(c, x.b, nil)
 		_, h := Still(c, []api.Body{none, x.b})
 		_, j := Floors(c, []api.Body{none, x.b})
-		if got := []api.Errno{a, d, f, g, h, j}; slices.ContainsFunc(got, func(e api.Errno) bool { return e != x.e }) || b != none || n != 2 || m != 0 {
+		if got := []api.Errno{a, d, f, g, h, j}; slices.ContainsFunc(got, func(e api.Errno) bool { return e != x.e }) || b != none || n != 1 || m != 0 {
 			t.Error(i, got, n)
 		}
 	}
@@ -116,7 +116,7 @@ func TestP36_2_P36_9(t *testing.T) {
 		}
 	}
 	orders[1].To, orders[2].What = 0, 9
-	if next, e, n := Tick(c, l, orders); next != nil || e != api.ErrState || n != 2 {
+	if next, e, n := Tick(c, l, orders); next != nil || e != api.ErrState || n != 1 {
 		t.Error(next, e, n)
 	}
 	if next, e, n := Tick(c, l, orders[:2]); next != nil || e != api.ErrFull || n != 0 {
