@@ -131,3 +131,13 @@ func TestP10_4_P10_8(t *testing.T) {
 		}
 	}
 }
+
+func TestP10Bounds(t *testing.T) {
+	for ticks, want := range map[int]api.Errno{-1: api.ErrRange, 0: api.OK, 1000: api.OK, 1001: api.ErrRange} {
+		l, e := States(3, ticks)
+		_, f := Run(New(), 3, ticks)
+		if e != want || f != want || e == api.OK && len(l) != 6+ticks {
+			t.Error(ticks, e, f)
+		}
+	}
+}

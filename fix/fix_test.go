@@ -153,3 +153,16 @@ func TestP1_10(t *testing.T) {
 		}
 	}
 }
+
+func TestP1Zeros(t *testing.T) {
+	a, _ := Add(wrong, 1, 1)
+	b, _ := Scale(wrong, 1, 1, 1, 1)
+	c, _ := Sum(wrong, []int{1})
+	d, _ := Clamp(wrong, 1)
+	if a != 0 || b != 0 || c != 0 || d != 0 {
+		t.Error(a, b, c, d)
+	}
+	if n, e := Div(ten, 0, -3, api.Near); n != 0 || e != api.OK {
+		t.Error(n, e)
+	}
+}

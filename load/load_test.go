@@ -143,3 +143,23 @@ func TestP11_5_P11_6_P11_7_P11_9(t *testing.T) {
 		}
 	}
 }
+
+func TestP11Bounds(t *testing.T) {
+	if l, e := Changes(plain, []int{0, 60}); !slices.Equal(l, []int{1}) || e != api.OK {
+		t.Error(l, e)
+	}
+	if n, e := Total(make([]int, 2000)); n != 0 || e != api.OK {
+		t.Error(n, e)
+	}
+	if n, e := Total([]int{5, -1}); n != 0 || e != api.ErrRange {
+		t.Error(n, e)
+	}
+	for person, want := range map[int]api.Errno{0: api.ErrRange, 1: api.OK, 10000: api.OK, 10001: api.ErrRange} {
+		if _, e := Fit(rule, 0, person); e != want {
+			t.Error(person, e)
+		}
+	}
+	if e := Check(api.LoadRule{Empty: 0, Full: 1}); e != api.OK {
+		t.Error(e)
+	}
+}

@@ -166,3 +166,16 @@ func TestP8_6_P8_9(t *testing.T) {
 		}
 	}
 }
+
+func TestP8Bounds(t *testing.T) {
+	for ticks, want := range map[int]api.Errno{-1: api.ErrRange, 0: api.OK, 1: api.OK} {
+		if _, _, e := Gone(5, 2, ticks); e != want {
+			t.Error(ticks, e)
+		}
+	}
+	for v, want := range map[int]api.Errno{-1: api.ErrRange, 0: api.OK, 20: api.OK, 21: api.ErrRange} {
+		if _, e := Tri(v); e != want {
+			t.Error(v, e)
+		}
+	}
+}

@@ -140,3 +140,14 @@ func TestP5_4_P5_8(t *testing.T) {
 		t.Error(q, wiped, e)
 	}
 }
+
+func TestP5Bounds(t *testing.T) {
+	if r, e := New(1); e != api.OK || r.Cap != 1 {
+		t.Error(r, e)
+	}
+	for size, want := range map[int]api.Errno{1: api.OK, 32: api.OK} {
+		if e, _ := Check(api.Ring{Cap: size, Next: 1}); e != want {
+			t.Error(size, e)
+		}
+	}
+}

@@ -157,3 +157,45 @@ func TestP3_4(t *testing.T) {
 		}
 	}
 }
+
+func TestP3Bounds(t *testing.T) {
+	for _, s := range []string{"a", "z", "A", "Z", "aazZ-09"} {
+		if !Name(s) {
+			t.Error(s)
+		}
+	}
+	for _, s := range []string{"`", "{", "@", "[", "a/", "a:"} {
+		if Name(s) {
+			t.Error(s)
+		}
+	}
+	for s, want := range map[string]string{`"\xAF\xaf\x09\x90"`: "\xaf\xaf\x09\x90", `"\\\""`: "\\\"", `" ~"`: " ~", "\"\u00a0\"": "\u00a0"} {
+		if got, e := Unquote(s); got != want || e != api.OK {
+			t.Errorf("%s: %q %v", s, got, e)
+		}
+	}
+	for _, s := range []string{`"\xG0"`, `"\x0@"`, `"\x"`, `"\x1"`, "\"\u009f\"", "\"\x1f\""} {
+		if got, e := Unquote(s); got != "" || e != api.ErrForm {
+			t.Errorf("%s: %q %v", s, got, e)
+		}
+	}
+	if Quote(" ~\u00a0\u009f") != "\" ~\u00a0\\xc2\\x9f\"" {
+		t.Error(Quote(" ~\u00a0\u009f"))
+	}
+	if _, f := Rows(strings.Repeat("#\n", 10000)); f != (api.Fault{}) {
+		t.Error(f)
+	}
+	many := []api.Row{}
+	for range 20 {
+		many = append(many, row(0, text(0, strings.Repeat("a", 997))))
+	}
+	many[0].Words[0].Name += "a"
+	if s, e := Text(many); s != "" || e != api.ErrLong {
+		t.Error(len(s), e)
+	}
+	for n, want := range map[int]api.Errno{3: api.ErrRange, 4: api.OK, 6: api.OK, 7: api.ErrRange} {
+		if _, e := Int(num(0, n), 4, 6); e != want {
+			t.Error(n, e)
+		}
+	}
+}

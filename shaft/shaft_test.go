@@ -128,3 +128,14 @@ func TestP7_3_P7_7(t *testing.T) {
 		}
 	}
 }
+
+func TestP7Bounds(t *testing.T) {
+	for gap, want := range map[int]api.Errno{0: api.ErrRange, 1: api.OK, 1000: api.OK, 1001: api.ErrRange} {
+		if e, _ := Check([]int{gap}); e != want {
+			t.Error(gap, e)
+		}
+		if h, e := Height([]int{gap}); e != want || e == api.OK && h != gap {
+			t.Error(gap, h, e)
+		}
+	}
+}
