@@ -127,3 +127,11 @@ func TestP20_4_P20_7(t *testing.T) {
 		}
 	}
 }
+
+func TestP20Marks(t *testing.T) {
+	for _, s := range []string{"c1@2@3", "c1@2:3", "u1:2", "u1:2@3", "c1:2:3", "c1:2@3:", "u1@2@", "u1@2:", "c1:", "c1:2", "c1:2@"} {
+		if c, e := Parse(s); c != none || e != api.ErrForm {
+			t.Error(s, c, e)
+		}
+	}
+}

@@ -182,3 +182,11 @@ func TestP18_4_P18_7_P18_9(t *testing.T) {
 		}
 	}
 }
+
+func TestP18Bounds(t *testing.T) {
+	for _, r := range []api.DoorRule{{Width: 1, Dwell: 1, Retries: 0}, {Width: 20, Dwell: 50, Retries: 5}} {
+		if e := Rule(r); e != api.OK {
+			t.Error(r, e)
+		}
+	}
+}

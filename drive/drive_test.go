@@ -153,3 +153,32 @@ func TestP13_4_P13_5_P13_6_P13_7_P13_8(t *testing.T) {
 		t.Error(d, m, e)
 	}
 }
+
+func TestP13Bounds(t *testing.T) {
+	for _, d := range []api.Drive{of(0, 63000, 20, 2, 0), of(63000, 0, 0, 1, 5), of(0, 63000, 0, 1, 1)} {
+		if e := Check(d); e != api.OK {
+			t.Error(d, e)
+		}
+	}
+	for _, e := range []api.Errno{Check(of(0, 63000, 21, 2, 0)), Check(of(0, 0, 0, 4, 0)), Check(of(0, 0, 0, -1, 0))} {
+		if e != api.ErrRange {
+			t.Error(e)
+		}
+	}
+	// All distances that are left at the greatest speed, counted tick by tick.
+	for left := 3; left < 60; left++ {
+		d := of(0, left, 3, 2, 0)
+		if Check(d) != api.OK {
+			continue
+		}
+		n, e := Needs(d, 3, 2)
+		ticks := 0
+		for d.Part != api.AtRest {
+			d, _, _ = Step(d, 3, 2)
+			ticks++
+		}
+		if n != ticks || e != api.OK {
+			t.Error(left, n, ticks, e)
+		}
+	}
+}

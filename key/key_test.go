@@ -151,3 +151,30 @@ func TestP22_4_P22_5_P22_7_P22_8_P22_9(t *testing.T) {
 		}
 	}
 }
+
+func TestP22Bounds(t *testing.T) {
+	for i, k := range []api.KeyState{{Keys: []int{1, 2, 3, 4, 5, 6, 7, 99}, Life: 1, Last: -1}, {Life: 100000, Last: 0}} {
+		if e := Check(k); e != api.OK {
+			t.Error(i, e)
+		}
+	}
+	for _, key := range []int{1, 99} {
+		if _, known, e := Present(state(-1), key, 0); known || e != api.OK {
+			t.Error(key, known, e)
+		}
+		if _, e := Stretches(state(-1), stamps(0, key)); e != api.OK {
+			t.Error(key, e)
+		}
+	}
+	if l, e := Stretches(state(-1), stamps(5, 7, 5, 42)); !slices.Equal(l, []api.Stretch{{From: 5, To: 15}}) || e != api.OK {
+		t.Error(l, e)
+	}
+	if _, e := Stretches(state(-1), slices.Repeat(stamps(5, 7), 2000)); e != api.OK {
+		t.Error(e)
+	}
+	for _, c := range [][2]int{{0, 0}, {0, 10}, {1 << 40, 1 << 40}} {
+		if got, e := Covers(state(-1), stamps(0, 7), c[0], c[1]); !got || e != api.OK {
+			t.Error(c, got, e)
+		}
+	}
+}

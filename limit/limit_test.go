@@ -111,3 +111,19 @@ func TestP14_3(t *testing.T) {
 		}
 	}
 }
+
+func TestP14Bounds(t *testing.T) {
+	for _, c := range [][3]int{{0, 1, 0}, {63000, 1, 0}, {0, 20, 0}, {-1, 1, 2}, {63001, 1, 2}, {0, 0, 2}, {0, 21, 2}} {
+		_, a := Causes(at(0, 0), c[0], c[1])
+		w, b := Watch([]api.Moving{at(0, 0)}, c[0], c[1])
+		if int(a) != c[2] || int(b) != c[2] || w != (api.Trip{}) {
+			t.Error(c, a, b)
+		}
+	}
+	if l, e := Jumps([]api.Moving{at(0, 1), at(3, 3), at(5, 2), at(5, 0), at(7, 2)}); !slices.Equal(l, []int{1, 4}) || e != api.OK {
+		t.Error(l, e)
+	}
+	if w, _ := Watch([]api.Moving{at(0, 1)}, 20, 3); w != (api.Trip{Cause: api.Runaway}) {
+		t.Error(w)
+	}
+}

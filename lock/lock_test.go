@@ -127,3 +127,12 @@ func TestP17_4_P17_8(t *testing.T) {
 		}
 	}
 }
+
+func TestP17Bounds(t *testing.T) {
+	if c, e := Of(2, 0, 1); text(c) != "o|ox" || e != api.OK {
+		t.Error(c, e)
+	}
+	if c, e := Of(64, 63, 0); len(c.Landings) != 64 || e != api.OK {
+		t.Error(c, e)
+	}
+}

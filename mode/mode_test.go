@@ -159,3 +159,17 @@ func TestP23_4_P23_8(t *testing.T) {
 		}
 	}
 }
+
+func TestP23Bounds(t *testing.T) {
+	for _, n := range []int{1, 8} {
+		if m, e := New(n); m.Cars != n || e != api.OK {
+			t.Error(n, m, e)
+		}
+	}
+	for trip := range 16 {
+		l, e := Allows(api.Normal, trip)
+		if want := []int{1 + trip%2, 2 - trip%2}; !slices.Equal(l, want) || e != api.OK {
+			t.Error(trip, l, e)
+		}
+	}
+}

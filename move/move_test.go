@@ -139,3 +139,20 @@ func TestP15_5_P15_6_P15_7_P15_8(t *testing.T) {
 		}
 	}
 }
+
+func TestP15Bounds(t *testing.T) {
+	for _, c := range [][3]int{{1, 0, 0}, {20, 5, 0}, {0, 0, 2}, {21, 0, 2}, {1, -1, 2}, {1, 6, 2}} {
+		_, a := Ticks(gaps, c[0], c[1])
+		b := Check(api.Pad{Drive: rest(3), Total: 200000, Done: 200000}, c[0], c[1])
+		if int(a) != c[2] || int(b) != c[2] {
+			t.Error(c, a, b)
+		}
+	}
+	p, _ := Begin(rest(0), 7, 7, 2, 1)
+	if q, m, e := Run(p, 2, 1, 0); q != p || m != 0 || e != api.OK {
+		t.Error(q, m, e)
+	}
+	if w, e := Wait(rest(3), 200000, 2, 1); w.Total != 200000 || e != api.OK {
+		t.Error(w, e)
+	}
+}

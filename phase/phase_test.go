@@ -162,3 +162,28 @@ func TestP26_4_P26_7(t *testing.T) {
 		}
 	}
 }
+
+func TestP26Bounds(t *testing.T) {
+	for _, c := range []api.Times{{Move: 1, Door: 1, Trip: 2, Slot: 5, Cycle: 5}, {Move: 200000, Door: 200000, Trip: 400000, Slot: 200000 + 17*400000, Cycle: 24 * (200000 + 17*400000)}} {
+		if e := Check(c); e != api.OK {
+			t.Error(c, e)
+		}
+	}
+	one := api.Times{Move: 1, Door: 1, Trip: 2, Slot: 5, Cycle: 5}
+	if n, e := Trips(one); n != 1 || e != api.OK {
+		t.Error(n, e)
+	}
+	if p, e := Of(one, 1<<40); p.Slot != 1<<40/5 || e != api.OK {
+		t.Error(p, e)
+	}
+	// The last tick of all: 2^40 is 1 behind the beginning of a slot of 5.
+	if n, e := Next(one, 1<<40-1, api.PartMove); n != 1<<40 || e != api.OK {
+		t.Error(n, e)
+	}
+	if n, e := Next(one, 1<<40-2, api.PartHoming); n != 1<<40-1 || e != api.OK {
+		t.Error(n, e)
+	}
+	if n, e := Next(api.Times{Move: 1, Door: 2, Trip: 3, Slot: 7, Cycle: 7}, 1<<40-3, api.PartHoming); e == api.OK && n > 1<<40 {
+		t.Error(n, e)
+	}
+}

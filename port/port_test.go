@@ -128,3 +128,22 @@ func TestP24_3_P24_6(t *testing.T) {
 		}
 	}
 }
+
+func TestP24Bounds(t *testing.T) {
+	for _, c := range []api.Config{{Floors: 2, Cars: 1}, {Floors: 64, Cars: 8}} {
+		for _, e := range []api.Event{{Kind: api.EvHall, A: 0, B: 1}, {Kind: api.EvHall, A: c.Floors - 1, B: 2}, {Kind: api.EvCar, A: 1, B: 0}, {Kind: api.EvCar, A: c.Cars, B: c.Floors - 1}, {Kind: api.EvKey, A: 1}, {Kind: api.EvKey, A: 99}, {Kind: api.EvMode, A: 1, B: 0}, {Kind: api.EvMode, A: c.Cars, B: 3}} {
+			if fits, err := Fits(c, e); !fits || err != api.OK {
+				t.Error(c, e, fits, err)
+			}
+		}
+		for _, e := range []api.Event{{}, {Kind: 5, A: 1}, {Kind: -1}} {
+			if fits, err := Fits(c, e); fits || err != api.OK {
+				t.Error(c, e, fits, err)
+			}
+		}
+	}
+	l := []api.Entry{{Kind: api.AtCar, Car: 1}, {Kind: api.AtPort, Data: "x"}}
+	if parts, e := Split(l); len(parts[0]) != 1 || e != api.OK {
+		t.Error(parts, e)
+	}
+}

@@ -105,3 +105,10 @@ func TestP12_3_P12_7(t *testing.T) {
 		t.Error(f)
 	}
 }
+
+func TestP12Bounds(t *testing.T) {
+	l := []api.Entry{{Kind: api.AtCar, Car: 8, What: api.DoorFail}, {Kind: api.AtCar, Car: 8, What: api.MotorFail}, {Kind: api.AtCar, Car: 8, What: api.Obstruct}}
+	if f, e := Faults(l, 8); !slices.Equal(f, []int{6, 3}) || e != api.OK {
+		t.Error(f, e)
+	}
+}

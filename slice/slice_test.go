@@ -150,3 +150,10 @@ func TestP25_4(t *testing.T) {
 		t.Error(l, e)
 	}
 }
+
+func TestP25Bounds(t *testing.T) {
+	eight := [][]int{{0}, {0}, {0}, {0}, {0}, {0}, {0}, {3}}
+	if l, e := Cars(eight, 1<<40, 3); !slices.Equal(l, []int{8}) || e != api.OK {
+		t.Error(l, e)
+	}
+}

@@ -164,3 +164,26 @@ func TestP21_4_P21_8(t *testing.T) {
 		}
 	}
 }
+
+func TestP21Bounds(t *testing.T) {
+	for n, want := range map[int]api.Errno{1: api.OK, 32: api.OK, 33: api.ErrRange, 0: api.ErrRange} {
+		_, a := New(n)
+		if b, _ := Check(api.Table{Cap: n}); a != want || b != want {
+			t.Error(n, a, b)
+		}
+	}
+	x := of(8, "u0@5 c1:63@5 c8:0@6")
+	for _, c := range []struct {
+		floor, car int
+		want       string
+	}{{0, 8, "u0@5 c8:0@6"}, {63, 1, "c1:63@5"}} {
+		if _, l, e := Serve(x, c.floor, c.car); text(l) != c.want || e != api.OK {
+			t.Error(c, l, e)
+		}
+	}
+	for car, want := range map[int]string{1: "c1:63@5", 8: "c8:0@6"} {
+		if l, e := Of(x, car); text(l) != want || e != api.OK {
+			t.Error(car, l, e)
+		}
+	}
+}
