@@ -145,3 +145,33 @@ func TestP29_3_P29_6_P29_7(t *testing.T) {
 		t.Error(l)
 	}
 }
+
+func TestP29Bounds(t *testing.T) {
+	var eight []api.Ask
+	for car := 1; car <= 8; car++ {
+		eight = append(eight, api.Ask{Car: car, Cycle: 1000, Full: 1, Now: 100})
+	}
+	l, e := All(table4, eight)
+	if e != api.OK || len(l) != 8 || l[2].Floor != 6 || l[3] != (api.Choice{Car: 4}) {
+		t.Error(l, e)
+	}
+	for _, now := range []int{0, 1 << 40} {
+		if _, e := Urgent(table4, now, 1); e != api.OK {
+			t.Error(now, e)
+		}
+	}
+	// The trips count up by one: in the trip 1 the car's own call comes first.
+	own := api.Table{Cap: 4, Calls: calls("u3@0 u5@0 c1:2@0 u6@0")}
+	if l, e := Plan(own, eight[:1], 4); !slices.Equal(l, []int{3, 2, 1, 0}) || e != api.OK {
+		t.Error(l, e)
+	}
+	x := eight[0]
+	x.Trip = 1
+	if y, _ := Serve(own, []api.Ask{x}); text(y.Calls) != "u3@0 u5@0 u6@0" {
+		t.Error(text(y.Calls))
+	}
+	down := api.Table{Cap: 4, Calls: calls("u3@0 c1:2@0 c1:1@1")}
+	if l, _ := Plan(down, eight[:1], 3); !slices.Equal(l, []int{2, 1, 0}) {
+		t.Error(l)
+	}
+}

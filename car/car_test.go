@@ -270,3 +270,22 @@ func TestP31_5_P31_6(t *testing.T) {
 		t.Error(served)
 	}
 }
+
+func TestP31Homing(t *testing.T) {
+	c := larger()
+	x, _ := config.Times(c)
+	for home, pos := range []int{0, 7, 20} {
+		s := fresh(t, c, true)
+		for tick := range x.Move {
+			n, served, e := Step(c, s, phaseOf(c, tick), home, true, true)
+			want := 0
+			if tick == x.Move-1 {
+				want = pos
+			}
+			if n.Drive != (api.Drive{Pos: want, Goal: want}) || served != -1 || e != api.OK {
+				t.Error(home, tick, n, e)
+			}
+			s = n
+		}
+	}
+}

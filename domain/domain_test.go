@@ -313,3 +313,55 @@ func TestP35_5_P35_6_P35_7_P35_9(t *testing.T) {
 		}
 	}
 }
+
+func TestP35_3Cars(t *testing.T) {
+	c := example()
+	c.Retries, c.Dwell = 1, 2
+	b := &bank{t: t, c: c}
+	b.s = fresh1(t, c, 1)
+	var v api.View
+	until := func(tick int, l ...api.Entry) {
+		for b.s.Now < tick {
+			b.step(-1)
+		}
+		v = b.step(-1, l...)
+	}
+	// Both cars choose other calls, whatever their kind; a car that has failed does not keep the next one from choosing.
+	until(0, atPort(0, 0, frame(1, api.EvHall, 2, 2)), atPort(0, 0, frame(1, api.EvHall, 1, 2)))
+	until(5)
+	if b.s.Cars[0].Goal != 2 || b.s.Cars[1].Goal != 1 {
+		t.Error(b.s.Cars)
+	}
+	// The door of car 2 is obstructed when it closes: it opens once more.
+	until(13, atCar(13, 2, api.Obstruct, 0))
+	if v.Sights[0].Panel != 0 || v.Sights[1].Panel != 1 || len(b.s.Table.Calls) != 0 {
+		t.Error(v)
+	}
+	b.s = fresh1(t, c, 1)
+	until(5, atPort(5, 0, frame(1, api.EvHall, 2, 1)), atCar(5, 1, api.DoorFail, 0), atPort(5, 0, frame(1, api.EvMode, 2, 1)), atPort(5, 0, frame(1, api.EvCar, 2, 1)), atPort(5, 0, frame(1, api.EvCar, 1, 1)))
+	if b.s.Cars[0].Goal != -1 || b.s.Cars[1].Goal != 1 || v.Up != 4 {
+		t.Error(b.s.Cars, v)
+	}
+	until(10)
+	if v.Up != 4 || len(b.s.Table.Calls) != 2 || b.s.Table.Calls[1].Car != 1 {
+		t.Error(v, b.s.Table)
+	}
+}
+
+func TestP35Bounds(t *testing.T) {
+	c := example()
+	for _, p := range []int{0, 23} {
+		if _, e := Belongs(c, 1, atPort(0, p, "")); e != api.OK {
+			t.Error(p, e)
+		}
+	}
+	s := fresh1(t, c, 1)
+	s.Now, s.Keys.Last = 9, 9
+	if e := Check(c, s); e != api.ErrForm {
+		t.Error(e)
+	}
+	s.Keys.Last = 8
+	if e := Check(c, s); e != api.OK {
+		t.Error(e)
+	}
+}

@@ -153,3 +153,16 @@ func TestP28_3_P28_6_P28_7_P28_8(t *testing.T) {
 		}
 	}
 }
+
+func TestP28Bounds(t *testing.T) {
+	low := api.Ask{Car: 1, Cycle: 1, Full: 1}
+	high := api.Ask{Car: 8, Mode: 3, Trip: 15, Now: 1 << 40, Cycle: 1<<63 - 1, Load: 10000, Full: 10000, Floor: 63, Home: 63}
+	for _, a := range []api.Ask{low, high} {
+		if e := Check(a); e != api.OK {
+			t.Error(a, e)
+		}
+	}
+	if x, is, e := Hall(most, 1<<40, 1, calls("u3@5")); text(x) != "u3@5" || !is || e != api.OK {
+		t.Error(x, is, e)
+	}
+}

@@ -6,6 +6,7 @@ import (
 	"testing"
 
 	"tipstaff/api"
+	"tipstaff/profile"
 )
 
 func example() api.Config {
@@ -231,6 +232,32 @@ func TestP36_5_P36_8(t *testing.T) {
 		}
 		if done < 1000 {
 			t.Error(brake, done)
+		}
+	}
+}
+
+func TestP36Bounds(t *testing.T) {
+	c := example()
+	if b, e := One(c, of(6, 1, 2, 0, 1), order(api.Travel, 6)); b != none || e != api.ErrState {
+		t.Error(b, e)
+	}
+	for _, at := range []int{0, 7, 30} {
+		l, e := Go(c, of(at, 0, 0, 0, 0), 1)
+		n, _ := profile.Travel(max(at-10, 10-at), c.Speed)
+		if len(l) != n+2 || e != api.OK {
+			t.Error(at, len(l), n, e)
+		}
+	}
+	for _, dwell := range []int{0, 1000} {
+		if l, e := Cycle(c, dwell); len(l) != 4+dwell || e != api.OK {
+			t.Error(dwell, len(l), e)
+		}
+	}
+	least := api.Config{Gaps: []int{1}, Cars: 1, Speed: 1, Width: 1}
+	largest := api.Config{Gaps: []int{1000}, Cars: 8, Speed: 20, Brake: 5, Tol: 20, Width: 20}
+	for _, c := range []api.Config{least, largest} {
+		if l, e := New(c); len(l) != c.Cars || e != api.OK {
+			t.Error(c, e)
 		}
 	}
 }

@@ -161,3 +161,23 @@ func TestP30_4(t *testing.T) {
 		t.Error(l, e)
 	}
 }
+
+func TestP30Bounds(t *testing.T) {
+	for cars := 1; cars <= 8; cars++ {
+		h := api.Handover{Loads: make([]int, cars), Faulted: make([]bool, cars), In: make([]bool, cars), Tables: []api.Table{of(""), of(""), of("")}}
+		h.Loads[cars-1], h.In[cars-1] = 10000, true
+		for empty, want := range map[int]int{0: 1 << (cars - 1), 9999: 1 << (cars - 1), 10000: 0} {
+			w, e := Word(h, empty)
+			l, f := Clean(h, empty)
+			if w != want || e+f != api.OK || l[cars-1] != (want == 0) {
+				t.Error(cars, empty, w, e, l, f)
+			}
+		}
+		if l, e := Bits(0, cars); len(l) != cars || e != api.OK {
+			t.Error(l, e)
+		}
+		if l, e := Bits(1<<cars-1, cars); slices.Contains(l, false) || e != api.OK {
+			t.Error(l, e)
+		}
+	}
+}

@@ -187,3 +187,23 @@ func TestP34_4_P34_6_P34_7_P34_8_P34_9(t *testing.T) {
 		}
 	}
 }
+
+func TestP34Bounds(t *testing.T) {
+	s := example()
+	if c, e := Cut(s, 0, 9); !same(c, s) || e != api.OK {
+		t.Error(c, e)
+	}
+	if c, e := Cut(s, 9, 9); c.Length != 0 || len(c.Entries) != 0 || e != api.OK {
+		t.Error(c, e)
+	}
+	if l, e := At(s, 0); len(l) != 0 || e != api.OK {
+		t.Error(l, e)
+	}
+	if x, e := Join(api.Script{Length: 19991}, s); x.Length != 20000 || e != api.OK {
+		t.Error(x.Length, e)
+	}
+	many := api.Script{Length: 9, Entries: slices.Repeat([]api.Entry{port(1, 0, "")}, 1997)}
+	if x, e := Join(many, s); len(x.Entries) != 2000 || e != api.OK {
+		t.Error(len(x.Entries), e)
+	}
+}
