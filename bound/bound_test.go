@@ -286,3 +286,24 @@ func TestP41_4Late(t *testing.T) {
 		t.Error("a domain without slots")
 	}
 }
+
+func TestP41Bounds(t *testing.T) {
+	c := shared(1)
+	other := of(100, atCar(5, 2, api.Load, 101), atCar(6, 2, api.MotorFail, 0), atPort(7, 0, frame(1, api.EvMode, 2, 2)))
+	if got, e := Good(c, other, 1, 1, 0); !got || e != api.OK {
+		t.Error(got, e)
+	}
+	if got, e := Good(c, other, 1, 2, 0); got || e != api.OK {
+		t.Error(got, e)
+	}
+	if l, e := Calls(c, of(5000)); len(l) != 0 || e != api.OK {
+		t.Error(l, e)
+	}
+	if l, e := Waits(c, of(0)); len(l) != 0 || e != api.OK {
+		t.Error(l, e)
+	}
+	mistagged := of(9, atPort(0, 8, frame(1, api.EvHall, 1, 1)), atPort(0, 0, frame(1, api.EvHall, 3, 1)))
+	if l, e := Calls(c, mistagged); len(l) != 0 || e != api.OK {
+		t.Error(l, e)
+	}
+}

@@ -245,3 +245,17 @@ func TestP42_4_P42_7(t *testing.T) {
 		}
 	}
 }
+
+func TestP42Bounds(t *testing.T) {
+	c := example()
+	for i, x := range []struct {
+		a, b api.Script
+		want int
+	}{{of(0), of(9), 0}, {of(50, atPort(0, 0, "")), of(50), 0}, {of(64, atCar(0, 1, 3, 0), atCar(21, 1, 3, 0)), of(64, atCar(0, 1, 3, 0)), 42}} {
+		n, e := Differ(c, x.a, x.b, 1)
+		same, f := Agree(c, x.a, x.b, 1)
+		if n != x.want || same || e+f != api.OK {
+			t.Error(i, n, e, same, f)
+		}
+	}
+}

@@ -8,6 +8,7 @@ import (
 
 	"tipstaff/api"
 	"tipstaff/phase"
+	"tipstaff/product"
 	"tipstaff/wire"
 )
 
@@ -276,5 +277,62 @@ func TestP37_5_P37_6_P37_7_P37_8(t *testing.T) {
 			}
 			before = now
 		}
+	}
+}
+
+// TestP37Product compares the group with the product of three automata, which say the same in another way.
+func TestP37Product(t *testing.T) {
+	r := rand.New(rand.NewSource(39))
+	for i := range 6 {
+		c := shared()
+		c.Trips, c.Dwell, c.Retries, c.Life = 1+i%4, 1+i%3, i%3, 40+40*i
+		s := random(r, c, 900)
+		g := fresh(t, c)
+		all, e := g.Run(s)
+		v, f := product.Views(c, s)
+		if e != api.OK || f != api.OK {
+			t.Fatal(e, f)
+		}
+		for tick, three := range all {
+			for d := range three {
+				if !reflect.DeepEqual(three[d], v[d][tick]) {
+					t.Fatal(i, tick, d, three[d], v[d][tick])
+				}
+			}
+		}
+	}
+}
+
+func TestP37Bodies(t *testing.T) {
+	c := example()
+	c.Rules[0].Home = 2
+	g := fresh(t, c)
+	pos, speed := []int{1, 3, 5, 7, 8}, []int{1, 2, 2, 2, 1}
+	for i := range pos {
+		v := step(t, g)
+		if b := g.Snapshot().Bodies[0]; b != (api.BodyView{Domain: 1, Pos: pos[i], Speed: speed[i], Motor: true, In: true, Goal: -1}) || v[0].Sights[0] != (api.Sight{Floor: -1}) {
+			t.Error(i, b)
+		}
+	}
+	step(t, g, atPort(5, 0, frame(1, api.EvHall, 0, 1)), atCar(5, 1, api.Load, 7), atPort(5, 16, frame(3, api.EvKey, 7, 0)))
+	if b := g.Snapshot().Bodies; b[0] != (api.BodyView{Domain: 1, Pos: 7, Speed: 1, Motor: true, Load: 7, In: true, Goal: 0, Key: true}) || b[1] != (api.BodyView{In: true, Goal: -1, Key: true}) {
+		t.Error(b)
+	}
+	for g.Now() < 13 {
+		step(t, g)
+	}
+	step(t, g)
+	if b := g.Snapshot().Bodies[0]; b.Goal != 2 || b.Began || b.Pos != 1 {
+		t.Error(b)
+	}
+	first := fresh(t, c)
+	step(t, first, atPort(0, 16, frame(3, api.EvKey, 7, 0)))
+	if !first.Snapshot().Bodies[0].Key || first.Snapshot().Tick != 0 {
+		t.Error(first.Snapshot())
+	}
+	first = fresh(t, c)
+	step(t, first, atPort(0, 16, frame(3, api.EvKey, 8, 0)), atPort(0, 0, frame(1, api.EvKey, 7, 0)))
+	if first.Snapshot().Bodies[0].Key {
+		t.Error(first.Snapshot())
 	}
 }

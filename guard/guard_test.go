@@ -238,3 +238,18 @@ func TestP40_6_P40_9(t *testing.T) {
 		}
 	}
 }
+
+func TestP40Bounds(t *testing.T) {
+	a := behind(t, 0)
+	if l, e := Shown(a); !l[0].Homing || e != api.OK {
+		t.Error(l, e)
+	}
+	a.Tick = 5
+	if l, e := Shown(a); l[0].Homing || e != api.OK {
+		t.Error(l, e)
+	}
+	x, y := behind(t, 0), behind(t, 1)
+	if l, e := Handover(x, y); l != nil || e != api.ErrOrder {
+		t.Error(l, e)
+	}
+}

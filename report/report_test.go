@@ -233,3 +233,26 @@ func TestP43_4(t *testing.T) {
 		t.Error(c, e)
 	}
 }
+
+func TestP43Bounds(t *testing.T) {
+	l := []api.View{{Sights: []api.Sight{{Panel: 3}, {Floor: -1, Panel: 3}}, Word: 255}, {Tick: 1, Sights: []api.Sight{{Panel: 3}, {Floor: 63, Panel: 20}}, Up: 1, Replies: []api.Reply{{Port: 23, Code: 6}}}, {Tick: 2, Sights: []api.Sight{{Panel: 2}, {Floor: 63, Panel: 3}}, Up: 3}, {Tick: 3, Sights: []api.Sight{{Panel: 0}, {}}, Up: 3}}
+	n, e := Count(l, 3)
+	if !reflect.DeepEqual(n, api.Numbers{Replies: [6]int{5: 1}, Lit: 2, Seen: []int{4, 3}, Down: []int{0, 0}, Open: []int{2, 1}}) || e != api.OK {
+		t.Error(n, e)
+	}
+	for _, c := range [][4]int{{1, 0, 3, 1}, {2, 63, 20, 1}, {2, 63, 3, 1}, {1, 0, 1, 0}, {2, 0, 3, 0}} {
+		if n, e := Visits(l, c[0], c[1], c[2]); n != c[3] || e != api.OK {
+			t.Error(c, n, e)
+		}
+	}
+	if f, up, s, e := Longest(l); f != 0 || !up || s != (api.Stretch{From: 1, To: 4}) || e != api.OK {
+		t.Error(f, up, s, e)
+	}
+	eight := []api.View{{Sights: make([]api.Sight, 8)}}
+	if e, _ := Check(eight); e != api.OK {
+		t.Error(e)
+	}
+	if s, e := Spells(l, 1, true); !slices.Equal(s, []api.Stretch{{From: 2, To: 4}}) || e != api.OK {
+		t.Error(s, e)
+	}
+}

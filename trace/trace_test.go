@@ -235,3 +235,32 @@ func TestP38_4_P38_5_P38_8_P38_9(t *testing.T) {
 		}
 	}
 }
+
+func TestP38Bounds(t *testing.T) {
+	first := view(0, api.Sight{Floor: -1})
+	if e, _ := Check([]api.View{first}); e != api.OK {
+		t.Error(e)
+	}
+	if same, e := Same([]api.View{first}, nil); same || e != api.OK {
+		t.Error(same, e)
+	}
+	if n, e := First([]api.View{first}, nil); n != 0 || e != api.OK {
+		t.Error(n, e)
+	}
+	if l, f := Parse("from 0 1\nat 0\nto 0"); !equal(l, []api.View{first}) || f != (api.Fault{}) {
+		t.Error(l, f)
+	}
+	long := make([]api.View, 5000)
+	for i := range long {
+		long[i] = view(i, api.Sight{Floor: -1})
+	}
+	long[7].Replies = slices.Repeat([]api.Reply{{Code: 6}}, 50)
+	if e, _ := Check(long); e != api.OK {
+		t.Error(e)
+	}
+	for _, s := range []string{"from 5 1\nat 6 6\nto 7", "from 5 1\nat 6\nword 1 1\nto 7", "from 5 1\nto 7 7", "from 5 1\nat 6\nreply 1 1 1\nto 7"} {
+		if l, f := Parse(s); l != nil || f.Err != api.ErrForm {
+			t.Error(s, f)
+		}
+	}
+}
