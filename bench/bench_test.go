@@ -27,7 +27,7 @@ func example() api.Config {
 func shared() api.Config {
 	c := example()
 	c.Floors, c.Gaps, c.Cars, c.Brake, c.Tol, c.Width, c.Retries, c.Trips, c.Slots, c.Empty = 4, []int{4, 7, 3}, 3, 1, 1, 2, 1, 2, 4, 10
-	c.Rota = [][]int{{1, 2, 3, 0}, {3, 3, 1, 1}, {2, 1, 2, 3}}
+	c.Rota = [][]int{{1, 2, 3, 0}, {1, 3, 3, 1}, {2, 1, 3, 1}}
 	c.Rules = [3]api.Rule{{Mask: 15, Home: 0, Calls: 6}, {Mask: 7, Home: 2, Calls: 3}, {Mask: 13, Home: 3, Calls: 4}}
 	return c
 }
@@ -293,4 +293,21 @@ func isPart(part, l []api.Entry) bool {
 		}
 	}
 	return len(part) == 0
+}
+
+func TestP44_2Differences(t *testing.T) {
+	g, _ := group.New(example())
+	run, _ := g.Run(api.Script{Length: 9, Entries: entries()})
+	for i, x := range []struct {
+		change       map[[2]int]uint64
+		tick, domain int
+	}{{nil, -1, 0}, {map[[2]int]uint64{{2, 0}: 1}, 0, 2}, {map[[2]int]uint64{{3, 5}: 9, {1, 7}: 9}, 5, 3}, {map[[2]int]uint64{{3, 5}: 9, {2, 5}: 9}, 5, 2}, {map[[2]int]uint64{{1, 8}: 64}, 8, 1}} {
+		own := [][]api.View{of(run, 1), of(run, 2), of(run, 3)}
+		for at, up := range x.change {
+			own[at[0]-1][at[1]].Up ^= up
+		}
+		if tick, domain := differ(run, own); tick != x.tick || domain != x.domain {
+			t.Error(i, tick, domain)
+		}
+	}
 }

@@ -23,7 +23,7 @@ func example() api.Config {
 func shared() api.Config {
 	c := example()
 	c.Floors, c.Gaps, c.Cars, c.Brake, c.Tol, c.Width, c.Dwell, c.Retries, c.Trips, c.Slots, c.Empty = 4, []int{4, 7, 3}, 3, 1, 1, 2, 2, 1, 3, 4, 10
-	c.Rota = [][]int{{1, 2, 3, 0}, {3, 3, 1, 1}, {2, 1, 2, 3}}
+	c.Rota = [][]int{{1, 2, 3, 0}, {1, 3, 3, 1}, {2, 1, 3, 1}}
 	c.Rules = [3]api.Rule{{Mask: 15, Home: 0, Calls: 6}, {Mask: 7, Home: 2, Calls: 3}, {Mask: 13, Home: 3, Calls: 4}}
 	return c
 }
@@ -169,9 +169,9 @@ func random(r *rand.Rand, c api.Config, length int) api.Script {
 			case 5, 6:
 				e = atCar(tick, 1+r.Intn(c.Cars), api.Obstruct, 0)
 			case 7:
-				e = atCar(tick, 1+r.Intn(c.Cars), api.Load, r.Intn(14)*r.Intn(11))
+				e = atCar(tick, 1+r.Intn(c.Cars), api.Load, r.Intn(6)+r.Intn(12)/11*r.Intn(60))
 			case 8:
-				if r.Intn(9) == 0 {
+				if r.Intn(12) == 0 {
 					e = atCar(tick, 1+r.Intn(c.Cars), 3+r.Intn(4), 0)
 				}
 			}
@@ -271,7 +271,8 @@ func TestP37_5_P37_6_P37_7_P37_8(t *testing.T) {
 				if grows && (!working || c.Rules[b.Domain-1].Mask>>b.Goal&1 == 0 || b.Domain == api.Detainee && !b.Key) {
 					t.Fatal(tick, b)
 				}
-				if first && (b.Faulted || b.Goal >= 0 || b.In != (tick == 0 || v[0].Word>>i&1 == 0)) {
+				fails := slices.ContainsFunc(l, func(e api.Entry) bool { return e.Kind == api.AtCar && e.Car == i+1 && e.What >= api.MotorFail })
+				if first && (b.Faulted != fails || b.Goal >= 0 || b.In != (tick == 0 || v[0].Word>>i&1 == 0)) {
 					t.Fatal(tick, b)
 				}
 			}
@@ -334,5 +335,46 @@ func TestP37Bodies(t *testing.T) {
 	step(t, first, atPort(0, 16, frame(3, api.EvKey, 8, 0)), atPort(0, 0, frame(1, api.EvKey, 7, 0)))
 	if first.Snapshot().Bodies[0].Key {
 		t.Error(first.Snapshot())
+	}
+}
+
+// TestP37Faults compares the group with the product when a car fails in one tick or another, also while its door is open and obstructed.
+func TestP37Faults(t *testing.T) {
+	c := shared()
+	g := fresh(t, c)
+	open := 0
+	for at := range 2 * g.t.Slot {
+		var l []api.Entry
+		for tick := range at + 1 {
+			if tick%g.t.Slot == 2 {
+				for d := 1; d <= 3; d++ {
+					l = append(l, atPort(tick, 8*(d-1), frame(d, api.EvHall, 2*(d%2), 1)), atPort(tick, 8*(d-1), frame(d, api.EvHall, 2, 2)), atPort(tick, 8*(d-1), frame(d, api.EvKey, 7, 0)))
+				}
+			}
+			if tick%7 < 3 && tick < at {
+				l = append(l, atCar(tick, 1+tick%3, api.Obstruct, 0))
+			}
+		}
+		l = append(l, atCar(at, 1+at%2, api.MotorFail, 0), atCar(at, 1+at%2, api.Obstruct, 0))
+		s := api.Script{Length: at + g.t.Door + 2, Entries: l}
+		g := fresh(t, c)
+		all, e := g.Run(s)
+		v, f := product.Views(c, s)
+		if e != api.OK || f != api.OK {
+			t.Fatal(e, f)
+		}
+		for tick, three := range all {
+			for d := range three {
+				if !reflect.DeepEqual(three[d], v[d][tick]) {
+					t.Fatal(at, tick, d, three[d], v[d][tick])
+				}
+				if s := three[d].Sights[at%2]; tick == at && s.Out && s.Panel > 0 {
+					open++
+				}
+			}
+		}
+	}
+	if open < 5 {
+		t.Error(open)
 	}
 }

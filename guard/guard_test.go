@@ -23,7 +23,7 @@ func example() api.Config {
 func shared() api.Config {
 	c := example()
 	c.Floors, c.Gaps, c.Cars, c.Brake, c.Tol, c.Width, c.Dwell, c.Retries, c.Trips, c.Slots, c.Empty = 4, []int{4, 7, 3}, 3, 1, 1, 2, 2, 1, 3, 4, 10
-	c.Rota = [][]int{{1, 2, 3, 0}, {3, 3, 1, 1}, {2, 1, 2, 3}}
+	c.Rota = [][]int{{1, 2, 3, 0}, {1, 3, 3, 1}, {2, 1, 3, 1}}
 	c.Rules = [3]api.Rule{{Mask: 15, Home: 0, Calls: 6}, {Mask: 7, Home: 2, Calls: 3}, {Mask: 13, Home: 3, Calls: 4}}
 	return c
 }

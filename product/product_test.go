@@ -24,7 +24,7 @@ func shared(r *rand.Rand) api.Config {
 	c := example()
 	c.Floors, c.Gaps, c.Cars, c.Tol, c.Slots, c.Life = 4, []int{1 + r.Intn(5), 1 + r.Intn(9), 2}, 3, r.Intn(3), 4, 60
 	c.Speed, c.Brake, c.Width, c.Dwell, c.Retries, c.Trips = 1+r.Intn(4), r.Intn(3), 1+r.Intn(3), 1+r.Intn(3), r.Intn(3), 1+r.Intn(4)
-	c.Rota = [][]int{{1, 2, 3, 0}, {3, 3, 1, 1}, {2, 1, 2, 3}}
+	c.Rota = [][]int{{1, 2, 3, 0}, {1, 3, 3, 1}, {2, 1, 3, 1}}
 	c.Rules = [3]api.Rule{{Mask: 15, Home: 0, Calls: 6}, {Mask: 7, Home: 2, Calls: 3}, {Mask: 13, Home: 3, Calls: 4}}
 	return c
 }
@@ -64,9 +64,9 @@ func random(r *rand.Rand, c api.Config, length int) api.Script {
 			case 5, 6:
 				e = atCar(tick, 1+r.Intn(c.Cars), api.Obstruct, 0)
 			case 7:
-				e = atCar(tick, 1+r.Intn(c.Cars), api.Load, r.Intn(9)*r.Intn(8))
+				e = atCar(tick, 1+r.Intn(c.Cars), api.Load, r.Intn(6)+r.Intn(12)/11*r.Intn(60))
 			case 8:
-				if r.Intn(9) == 0 {
+				if r.Intn(12) == 0 {
 					e = atCar(tick, 1+r.Intn(c.Cars), 3+r.Intn(4), 0)
 				}
 			}
@@ -252,6 +252,18 @@ func TestP39_5_P39_8_P39_9(t *testing.T) {
 	for d := 1; d <= 3; d++ {
 		if one, e := One(other, d, p.Own[d-1], p.Words); e != api.OK || Differ(one, v[d-1]) != -1 {
 			t.Error(d, e)
+		}
+	}
+}
+
+func TestP39_4Errors(t *testing.T) {
+	a, b, c := trouble{tick: 7, err: api.ErrForm}, trouble{tick: 5, err: api.ErrState}, trouble{tick: 5, err: api.ErrRange}
+	for i, x := range []struct {
+		runs [3]run
+		want trouble
+	}{{[3]run{}, trouble{}}, {[3]run{{}, {trouble: a}}, a}, {[3]run{{trouble: a}, {trouble: b}, {trouble: c}}, b}, {[3]run{{trouble: c}, {trouble: b}}, c}, {[3]run{{trouble: a}, {}, {trouble: b}}, b}} {
+		if got := earliest(x.runs); got != x.want {
+			t.Error(i, got)
 		}
 	}
 }
