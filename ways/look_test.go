@@ -234,9 +234,6 @@ func (w *waysLook) look(n ast.Node, got map[string]bool, push func(types.Object)
 			got["defer"] = true
 		case *ast.MapType:
 			got["map"] = true
-			if _, ok := w.under(x.Value).(*types.Signature); ok { // a table of functions keeps them as a field does
-				got["function-field"] = true
-			}
 		case *ast.FuncLit:
 			got["closure"] = true
 		case *ast.TypeSwitchStmt:
@@ -294,9 +291,6 @@ func (w *waysLook) look(n ast.Node, got map[string]bool, push func(types.Object)
 				got["variadic"] = true
 			}
 		case *ast.ArrayType:
-			if _, ok := w.under(x.Elt).(*types.Signature); ok {
-				got["function-field"] = true
-			}
 			if x.Len != nil {
 				got["array"] = true
 			}
@@ -328,9 +322,7 @@ func (w *waysLook) look(n ast.Node, got map[string]bool, push func(types.Object)
 					if kv, ok := e.(*ast.KeyValueExpr); ok {
 						e = kv.Value
 					}
-					_, row := e.(*ast.CompositeLit)
-					_, fun := w.under(e).(*types.Signature) // a table of functions is one too
-					if row || fun || w.info.Types[e].Value != nil {
+					if _, ok := e.(*ast.CompositeLit); ok || w.info.Types[e].Value != nil {
 						n++
 					}
 				}

@@ -1,6 +1,11 @@
 package ways
 
-import "testing"
+import (
+	"os"
+	"path/filepath"
+	"slices"
+	"testing"
+)
 
 // landed is how many of the layers are built.
 const landed = 44
@@ -62,6 +67,32 @@ func TestWays(t *testing.T) {
 		}
 		for _, m := range miss {
 			t.Errorf("%s: way missing: %s", c.pack, m)
+		}
+	}
+}
+
+// TestFunctionField checks that only a struct's field whose own type is a function type counts as one, and no table of functions.
+func TestFunctionField(t *testing.T) {
+	for _, c := range []struct {
+		field string
+		miss  []string
+	}{
+		{"func() bool", nil},
+		{"[2]func() bool", []string{"function-field"}},
+		{"[]func() bool", []string{"function-field"}},
+		{"map[int]func() bool", []string{"function-field"}},
+	} {
+		root := t.TempDir()
+		if err := os.Mkdir(filepath.Join(root, "p"), 0o755); err != nil {
+			t.Fatal(err)
+		}
+		text := "package p\n\ntype T struct {\n\tF " + c.field + "\n}\n"
+		if err := os.WriteFile(filepath.Join(root, "p", "p.go"), []byte(text), 0o644); err != nil {
+			t.Fatal(err)
+		}
+		miss, err := WaysMissing(root, "m", []string{"p"}, []string{"function-field"})
+		if err != nil || !slices.Equal(miss, c.miss) {
+			t.Error(c.field, miss, err)
 		}
 	}
 }
